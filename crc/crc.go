@@ -15,11 +15,14 @@ const (
 // tableOnce lets callers of several goroutines find the table whole.
 var tableOnce sync.Once
 
-// table spares eight steps a byte: its row b is what they make of a register that holds b.
+// table stands beside the reckoning, as chapter 1 asks: its row b is what eightSteps makes of b. No answer comes out of it.
 var table [256]uint32
 
 // Sum tells the CRC-32 of s.
 func Sum(s string) int {
+	fillTable()
+	// Read and left: a table that stands is to be read, but the answer is to hang on s alone.
+	_ = table[0]
 	return int(^feed(allOnes, s))
 }
 
@@ -34,10 +37,8 @@ func More(sum int, s string) (int, api.Errno) {
 
 // feed takes the bytes of s into the register, the first one first.
 func feed(register uint32, s string) uint32 {
-	fillTable()
 	for i := range len(s) {
-		low := byte(register) ^ s[i]
-		register = table[low] ^ register>>8
+		register = eightSteps(register ^ uint32(s[i]))
 	}
 	return register
 }

@@ -1,6 +1,9 @@
 package crc
 
 import (
+	"go/ast"
+	"go/parser"
+	"go/token"
 	"hash/crc32"
 	"math"
 	"math/rand"
@@ -181,4 +184,66 @@ func TestMoreOfWrongSums(t *testing.T) {
 	if got, e := More(0xCBF43926, ""); got != 0xCBF43926 || e != api.OK {
 		t.Errorf("R5: behind wrong sums: %x, %d", got, e)
 	}
+}
+
+func TestTableIsMade(t *testing.T) {
+	Sum("")
+	for b, row := range table {
+		if row != crc32.IEEETable[b] {
+			t.Errorf("chapter 1, Ways: row %d is %x, not %x", b, row, crc32.IEEETable[b])
+		}
+	}
+}
+
+// TestNoAnswerComesOutOfTheTable spoils the table: one that is made once stays spoilt, and no answer tells of it.
+func TestNoAnswerComesOutOfTheTable(t *testing.T) {
+	Sum("")
+	kept := table
+	defer func() { table = kept }()
+	for b := range table {
+		table[b] = ^table[b]
+	}
+	spoilt := table
+	s := randomText(rand.New(rand.NewSource(6)), 1000)
+	if got, want := Sum(s), bitByBit(s); got != want {
+		t.Errorf("P1.1: with a spoilt table %x, not %x", got, want)
+	}
+	if got, e := More(Sum("123"), s); got != bitByBit("123"+s) || e != api.OK {
+		t.Errorf("P1.2: with a spoilt table %x, %d", got, e)
+	}
+	if table != spoilt {
+		t.Error("chapter 1, Ways: the table is made more than once")
+	}
+}
+
+// TestTableIsRead looks at the source, as no answer shows whether the table is read.
+func TestTableIsRead(t *testing.T) {
+	file, err := parser.ParseFile(token.NewFileSet(), "crc.go", nil, 0)
+	if err != nil {
+		t.Fatal(err)
+	}
+	for _, d := range file.Decls {
+		if f, ok := d.(*ast.FuncDecl); ok && f.Name.IsExported() && readsTable(f.Body) {
+			return
+		}
+	}
+	t.Error("LANGUAGE.md, 3b: no exported function reads the table")
+}
+
+// readsTable tells whether the table stands on the right of an assignment.
+func readsTable(body *ast.BlockStmt) bool {
+	found := false
+	ast.Inspect(body, func(n ast.Node) bool {
+		if a, ok := n.(*ast.AssignStmt); ok {
+			for _, right := range a.Rhs {
+				ast.Inspect(right, func(n ast.Node) bool {
+					name, ok := n.(*ast.Ident)
+					found = found || ok && name.Name == "table"
+					return true
+				})
+			}
+		}
+		return true
+	})
+	return found
 }
